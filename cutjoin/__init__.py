@@ -1,0 +1,1 @@
+"""Rows and rings of pieces, cut at two places and joined anew."""
