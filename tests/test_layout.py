@@ -7,6 +7,8 @@ import unittest
 
 PACKAGE = pathlib.Path(__file__).resolve().parent.parent / "cutjoin"
 
+LIBRARY = ("heapq", "math", "itertools", "collections", "__future__")
+
 INTERFACE = {
     "errors": ("JoinError", "BadYard", "BadPlaces", "BadDeed", "BadText", "Unlike"),
     "pieces": ("is_name", "is_piece", "is_end", "begins", "ends", "other_end", "place_of"),
@@ -59,13 +61,13 @@ class Files(unittest.TestCase):
                     with self.subTest(path=path.name, name=node.name):
                         self.assertLessEqual(node.end_lineno - node.lineno + 1, 40)
 
-    def test_imports_come_from_the_package(self):
+    def test_imports_come_from_the_package_and_the_allowed_library(self):
         for path, text in sources():
             for node in ast.walk(ast.parse(text)):
                 self.assertNotIsInstance(node, ast.Import)
                 if isinstance(node, ast.ImportFrom):
                     self.assertEqual(node.level, 0)
-                    self.assertTrue(node.module.startswith("cutjoin."))
+                    self.assertTrue(node.module.startswith("cutjoin.") or node.module in LIBRARY, node.module)
 
 
 if __name__ == "__main__":
