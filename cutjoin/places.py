@@ -21,6 +21,11 @@ def places_of(yard):
 def yard_by(places):
     """The yard that has just these places; BadPlaces for those of no yard."""
     _need_places(places)
+    return yard_with(places)
+
+
+def yard_with(places):
+    """The yard of places that are known to be those of one."""
     beside = partners(places)
     rows = _lines_from(beside, [end for end in beside if beside[end] == NOTHING])
     in_rows = [name for row in rows for name, _ in row]

@@ -2,6 +2,8 @@
 
 from collections import namedtuple
 
+from cutjoin.places import yard_by
+
 Pair = namedtuple("Pair", "name way")
 
 
@@ -92,3 +94,36 @@ def partings(ends):
 def place_lists(some):
     """The places of every yard that has just these names, rising ones."""
     return partings([(name, side) for name in some for side in (0, 1)])
+
+
+def yards_of(some):
+    """Every yard that has just these names, rising ones."""
+    return [yard_by(places) for places in place_lists(some)]
+
+
+def small_yards():
+    """Every yard of up to three pieces, named from a on."""
+    return [yard for some in ("", "a", "ab", "abc") for yard in yards_of(some)]
+
+
+def mixed(many, step, free):
+    """A yard of many pieces, an even count of its ends free, and the others joined as a step has it."""
+    some = names(many)
+    ends = [(some[at // 2], at % 2) for at in [at * step % (2 * many) for at in range(2 * many)]]
+    joins = [tuple(sorted(ends[at:at + 2])) for at in range(free, 2 * many, 2)]
+    return yard_by([((), end) for end in ends[:free]] + joins)
+
+
+def behind(places, deed):
+    """The places behind a deed, as the document says it word by word."""
+    one, other, way = deed
+    (a, b), (c, d) = one, other
+    put = [(a, c), (b, d)] if way == 0 else [(a, d), (b, c)]
+    left = [place for place in places if place not in (one, other)]
+    return sorted(left + [tuple(sorted(place)) for place in put if place != ((), ())])
+
+
+def pairs_of_places(places):
+    """All pairs of unlike ones among places and the place of nothing twice, in either order."""
+    some = [((), ())] + places
+    return [(one, other) for one in some for other in some if one != other]

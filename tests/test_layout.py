@@ -14,13 +14,19 @@ INTERFACE = {
     "pieces": ("is_name", "is_piece", "is_end", "begins", "ends", "other_end", "place_of"),
     "yards": ("yard_of", "names_of", "turned", "need_yard"),
     "places": ("places_of", "yard_by", "place_at"),
+    "telling": ("written", "read"),
+    "deeds": ("done", "back", "all_deeds"),
+    "walks": ("parts", "apart"),
+    "fewest": ("deeds_to", "nearer", "is_between"),
 }
 
 ARGUMENTS = {
     "is_name": ["thing"], "is_piece": ["thing"], "is_end": ["thing"], "begins": ["piece"], "ends": ["piece"],
     "other_end": ["end"], "place_of": ["one", "other"], "yard_of": ["rows", "rings"], "names_of": ["yard"],
     "turned": ["yard", "names"], "need_yard": ["thing"], "places_of": ["yard"], "yard_by": ["places"],
-    "place_at": ["yard", "end"],
+    "place_at": ["yard", "end"], "written": ["yard"], "read": ["text"], "done": ["yard", "deed"],
+    "back": ["yard", "deed"], "all_deeds": ["yard"], "parts": ["one", "other"], "apart": ["one", "other"],
+    "deeds_to": ["one", "other"], "nearer": ["one", "other"], "is_between": ["one", "mid", "other"],
 }
 
 

@@ -3,8 +3,12 @@
 import copy
 import unittest
 
-from cutjoin.errors import BadPlaces, BadYard
+from cutjoin.deeds import all_deeds, back, done
+from cutjoin.errors import BadDeed, BadPlaces, BadYard, Unlike
+from cutjoin.fewest import deeds_to, is_between, nearer
 from cutjoin.places import place_at, places_of, yard_by
+from cutjoin.telling import read, written
+from cutjoin.walks import apart, parts
 from cutjoin.yards import names_of, need_yard, turned, yard_of
 
 
@@ -58,28 +62,70 @@ class HandedIn(unittest.TestCase):
         some.append("c")
         self.assertEqual(other, turned(self.yard, ["a"]))
 
+    def test_yards_and_deeds_stay_as_they_were(self):
+        one, mid, other = read("a b, (c)"), read("a, b, (c)"), read("(a b c)")
+        yards = copy.deepcopy((one, mid, other))
+        deed = (((), ("a", 0)), (("a", 1), ("b", 0)), 1)
+        bad = (((), ("a", 0)), ((), ("b", 1)), 1)
+        before = copy.deepcopy((deed, bad))
+        for ask in (written, all_deeds):
+            ask(one)
+        is_between(one, mid, other)
+        for ask in (done, back):
+            ask(one, deed)
+            with self.assertRaises(BadDeed):
+                ask(one, bad)
+        for ask in (parts, apart, deeds_to, nearer):
+            ask(one, other)
+            with self.assertRaises(Unlike):
+                ask(one, read("a"))
+        self.assertEqual((one, mid, other), yards)
+        self.assertEqual((deed, bad), before)
+
+    def test_refused_deeds_stay_as_they_were(self):
+        place = [("a", 1), ("b", 0)]
+        deed = [place, ((), ()), 0]
+        for wrong in (deed, tuple(deed)):
+            with self.assertRaises(BadDeed):
+                done(read("a b"), wrong)
+        self.assertEqual(deed, [[("a", 1), ("b", 0)], ((), ()), 0])
+
+
+def asks_for_lists(yard, other):
+    """What is told as a list, each by what asks for it."""
+    return [
+        lambda: names_of(yard), lambda: places_of(yard), lambda: all_deeds(yard), lambda: parts(yard, other),
+        lambda: deeds_to(yard, other), lambda: nearer(yard, other),
+    ]
+
 
 class Told(unittest.TestCase):
     def setUp(self):
         self.yard = yard_of([[("b", 1), ("a", 1)]], [[("c", 1)]])
+        self.other = read("-a b c")
 
     def test_a_told_list_is_the_askers_own(self):
-        for ask in (names_of, places_of):
-            with self.subTest(ask=ask):
-                first = ask(self.yard)
-                expected = list(first)
-                first.reverse()
-                first.append("x")
-                self.assertEqual(ask(self.yard), expected)
-                first.clear()
-                self.assertEqual(ask(self.yard), expected)
+        for ask in asks_for_lists(self.yard, self.other) + asks_for_lists(((), ()), ((), ())):
+            first = ask()
+            self.assertIs(type(first), list)
+            expected = list(first)
+            first.reverse()
+            first.append("x")
+            self.assertEqual(ask(), expected)
+            first.clear()
+            self.assertEqual(ask(), expected)
 
-    def test_lists_are_told(self):
-        self.assertIs(type(names_of(self.yard)), list)
-        self.assertIs(type(places_of(self.yard)), list)
+    def test_what_stands_in_a_told_list_cannot_be_changed(self):
+        for ask in asks_for_lists(self.yard, self.other):
+            told = ask()
+            self.assertNotEqual(told, [])
+            # only what is made of texts, numbers and tuples of them can be hashed here
+            self.assertEqual(len({thing: True for thing in told}), len(told))
 
     def test_yards_are_tuples_throughout(self):
-        for yard in (self.yard, need_yard(self.yard), turned(self.yard, ["a"]), yard_by(places_of(self.yard))):
+        deed = all_deeds(self.yard)[1]
+        for yard in (self.yard, need_yard(self.yard), turned(self.yard, ["a"]), yard_by(places_of(self.yard)),
+                     read("a -b, (c)"), done(self.yard, deed), done(done(self.yard, deed), back(self.yard, deed))):
             self.assertIs(type(yard), tuple)
             for lines in yard:
                 self.assertIs(type(lines), tuple)
@@ -96,6 +142,15 @@ class Told(unittest.TestCase):
             self.assertEqual(place_at(self.yard, ("a", 0)), (("a", 0), ("b", 1)))
             self.assertEqual(yard_by(places_of(self.yard)), self.yard)
             self.assertEqual(need_yard(self.yard), self.yard)
+            self.assertEqual(written(read("c b, (a)")), "-b -c, (-a)")
+            self.assertEqual(done(self.yard, (((), ()), (("c", 0), ("c", 1)), 1)), read("b a, c"))
+            self.assertEqual(apart(self.yard, self.other), 2)
+            self.assertEqual(is_between(self.yard, read("b a, c"), self.other), False)
+
+    def test_deeds_and_parts_are_asked_for_in_any_turn(self):
+        first = [ask() for ask in asks_for_lists(self.yard, self.other)]
+        again = [ask() for ask in asks_for_lists(self.yard, self.other)[::-1]]
+        self.assertEqual(first, again[::-1])
 
 
 if __name__ == "__main__":
