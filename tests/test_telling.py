@@ -155,12 +155,12 @@ class Refused(unittest.TestCase):
 
     def test_brackets(self):
         self.refuse("(", ")", "()", "( )", "(a", "a)", ")a(", "((a))", "(a))", "((a)", "(a)(b)", "(a) (b)", "(a) b",
-                    "a (b)", "a(b)", "(a)b", "a, ()", "(), a", "[a]", "{a}", "<a>", "(a (b))", "a b)", "(a b", "(a b), c)",
-                    "(a), (b", "a, (", "a, )", "(-)", "((), a)")
+                    "a (b)", "a(b)", "(a)b", "a, ()", "(), a", "[a]", "{a}", "<a>", "(a (b))", "a b)", "(a b",
+                    "(a b), c)", "(a), (b", "a, (", "a, )", "(-)", "((), a)")
 
     def test_strokes(self):
-        self.refuse("-", "--", "--a", "a-", "-a-", "a-b", "a--b", "a -", "- -a", "-(a)", "-(a b)", "(--a)", "(a-)", "(-)",
-                    "a, -", "-, a", "a --b", "+a", "a +b", "\u2212a", "\u2013a", "~a")
+        self.refuse("-", "--", "--a", "a-", "-a-", "a-b", "a--b", "a -", "- -a", "-(a)", "-(a b)", "(--a)", "(a-)",
+                    "(-)", "a, -", "-, a", "a --b", "+a", "a +b", "\u2212a", "\u2013a", "~a")
 
     def test_other_signs(self):
         self.refuse("a.b", "a/b", "a|b", "'a'", '"a"', "a:", "None", "0", "a\\", "a*", "()()", "(()", "a\rb")
